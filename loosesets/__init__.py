@@ -1,0 +1,1 @@
+"""bindhall: what hangs on what, told by the greatest loose sets."""

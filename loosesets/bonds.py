@@ -1,0 +1,133 @@
+"""The calls on four places, each with a bond, and their answers."""
+
+from loosesets.bond import Bond, bond_of_nothing, bond_of_size, closure_of, rank_of, whole_rank
+from loosesets.exchange import are_bases
+from loosesets.feed import Feed
+from loosesets.nets import are_ends, bond_of_edges
+from loosesets.rounds import least_of_parts, rounds_of
+from loosesets.vectors import are_rows, bond_of_rows
+
+PLACES = 4
+MOST_THINGS = 8
+
+# A refusal stands alone in the place of an answer; WRONG is asked for before the others.
+WRONG = -2
+NO_SUCH_BASE = -4
+NO_BOND = -5
+
+
+def told(bond):
+    return [bond.things, whole_rank(bond), len(bond.bases)]
+
+
+def put(places, k, bond):
+    places[k] = bond
+    return told(bond)
+
+
+# Each call takes all its numbers before it refuses, so that the next one begins where it should.
+
+def call_any(places, feed):
+    k = feed.take()
+    n = feed.take()
+    r = feed.take()
+    if k >= PLACES or n > MOST_THINGS or r > n:
+        return [WRONG]
+    return put(places, k, bond_of_size(n, r))
+
+
+def call_edges(places, feed):
+    k = feed.take()
+    ends = feed.take_row()
+    if k >= PLACES or not are_ends(ends):
+        return [WRONG]
+    return put(places, k, bond_of_edges(ends))
+
+
+def call_rows(places, feed):
+    k = feed.take()
+    p = feed.take()
+    n = feed.take()
+    numbers = feed.take_row()
+    if k >= PLACES or not are_rows(p, n, numbers):
+        return [WRONG]
+    return put(places, k, bond_of_rows(p, n, numbers))
+
+
+def call_bases(places, feed):
+    k = feed.take()
+    n = feed.take()
+    sets = feed.take_row()
+    # The shift waits for n to be small: n may be as great as 4294967295.
+    if k >= PLACES or n > MOST_THINGS or any([s >= 1 << n for s in sets]):
+        return [WRONG]
+    bases = sorted(set(sets))
+    if not are_bases(bases):
+        return [NO_BOND]
+    return put(places, k, Bond(n, bases))
+
+
+def call_tell(places, feed):
+    k = feed.take()
+    if k >= PLACES:
+        return [WRONG]
+    return told(places[k])
+
+
+def call_nth(places, feed):
+    k = feed.take()
+    i = feed.take()
+    if k >= PLACES:
+        return [WRONG]
+    bases = places[k].bases
+    if i >= len(bases):
+        return [NO_SUCH_BASE]
+    return [bases[i]]
+
+
+def call_rank(places, feed):
+    k = feed.take()
+    s = feed.take()
+    if k >= PLACES or s >= 1 << places[k].things:
+        return [WRONG]
+    return [rank_of(places[k], s), closure_of(places[k], s)]
+
+
+def call_rounds(places, feed):
+    k = feed.take()
+    if k >= PLACES:
+        return [WRONG]
+    found = rounds_of(places[k])
+    return [len(found)] + found
+
+
+def call_parts(places, feed):
+    k = feed.take()
+    if k >= PLACES:
+        return [WRONG]
+    return [places[k].things] + least_of_parts(places[k])
+
+
+CALLS = {
+    0: call_any,
+    1: call_edges,
+    2: call_rows,
+    3: call_bases,
+    4: call_tell,
+    5: call_nth,
+    6: call_rank,
+    7: call_rounds,
+    8: call_parts,
+}
+
+
+def answers(calls):
+    feed = Feed(calls)
+    places = [bond_of_nothing() for k in range(PLACES)]
+    gathered = []
+    while feed.has_more():
+        call = CALLS[feed.take()]
+        answer = call(places, feed)
+        gathered.append(len(answer))
+        gathered.extend(answer)
+    return gathered
