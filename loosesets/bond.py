@@ -6,8 +6,8 @@ from loosesets.sets import size
 class Bond:
     def __init__(self, things, bases):
         self.things = things
-        # Told each once, and kept in order, so that base i is found by an index.
-        self.bases = sorted(bases)
+        # Kept each once and in order, so that base i is found by an index and alike bonds have alike lists.
+        self.bases = sorted(set(bases))
 
 
 def bond_of_nothing():
@@ -31,6 +31,12 @@ def whole_rank(bond):
 def rank_of(bond, s):
     # A loose part of s lies within some base, so the greatest is s cut with a base.
     return max([size(base & s) for base in bond.bases])
+
+
+def ranks_of(bond):
+    # Each size is counted once and not for each base anew: the ranks of all sets together are asked for often.
+    sizes = [size(s) for s in range(1 << bond.things)]
+    return [max([sizes[base & s] for base in bond.bases]) for s in range(len(sizes))]
 
 
 def closure_of(bond, s):

@@ -1,17 +1,22 @@
 """The calls on four places, each with a bond, and their answers."""
 
 from loosesets.bond import Bond, bond_of_nothing, bond_of_size, closure_of, rank_of, whole_rank
+from loosesets.cuts import dropped, dual_of, pinched
 from loosesets.exchange import are_bases
 from loosesets.feed import Feed
 from loosesets.nets import are_ends, bond_of_edges
+from loosesets.pairs import are_same, common_of, set_beside, united
+from loosesets.polynomial import MOST_EXPONENT, number_at
 from loosesets.rounds import least_of_parts, rounds_of
 from loosesets.vectors import are_rows, bond_of_rows
+from loosesets.worth import best_of
 
 PLACES = 4
 MOST_THINGS = 8
 
 # A refusal stands alone in the place of an answer; WRONG is asked for before the others.
 WRONG = -2
+UNFIT = -3
 NO_SUCH_BASE = -4
 NO_BOND = -5
 
@@ -108,6 +113,89 @@ def call_parts(places, feed):
     return [places[k].things] + least_of_parts(places[k])
 
 
+def call_dual(places, feed):
+    k = feed.take()
+    j = feed.take()
+    if k >= PLACES or j >= PLACES:
+        return [WRONG]
+    return put(places, j, dual_of(places[k]))
+
+
+def call_drop(places, feed):
+    return cut(places, feed, dropped)
+
+
+def call_pinch(places, feed):
+    return cut(places, feed, pinched)
+
+
+def cut(places, feed, left_over):
+    k = feed.take()
+    s = feed.take()
+    j = feed.take()
+    if k >= PLACES or j >= PLACES or s >= 1 << places[k].things:
+        return [WRONG]
+    return put(places, j, left_over(places[k], s))
+
+
+def call_beside(places, feed):
+    k = feed.take()
+    h = feed.take()
+    j = feed.take()
+    if k >= PLACES or h >= PLACES or j >= PLACES:
+        return [WRONG]
+    if places[k].things + places[h].things > MOST_THINGS:
+        return [UNFIT]
+    return put(places, j, set_beside(places[k], places[h]))
+
+
+def call_union(places, feed):
+    k = feed.take()
+    h = feed.take()
+    j = feed.take()
+    if k >= PLACES or h >= PLACES or j >= PLACES:
+        return [WRONG]
+    if places[k].things != places[h].things:
+        return [UNFIT]
+    return put(places, j, united(places[k], places[h]))
+
+
+def call_same(places, feed):
+    k = feed.take()
+    h = feed.take()
+    if k >= PLACES or h >= PLACES:
+        return [WRONG]
+    return [1 if are_same(places[k], places[h]) else 0]
+
+
+def call_common(places, feed):
+    k = feed.take()
+    h = feed.take()
+    if k >= PLACES or h >= PLACES:
+        return [WRONG]
+    if places[k].things != places[h].things:
+        return [UNFIT]
+    return common_of(places[k], places[h])
+
+
+def call_best(places, feed):
+    k = feed.take()
+    weights = feed.take_row()
+    if k >= PLACES or len(weights) != places[k].things:
+        return [WRONG]
+    return best_of(places[k], weights)
+
+
+def call_number(places, feed):
+    k = feed.take()
+    i = feed.take()
+    j = feed.take()
+    if k >= PLACES or i > MOST_EXPONENT or j > MOST_EXPONENT:
+        return [WRONG]
+    # The 0 stands first since what is answered first is below 0 only where it is a refusal.
+    return [0, number_at(places[k], i, j)]
+
+
 CALLS = {
     0: call_any,
     1: call_edges,
@@ -118,6 +206,15 @@ CALLS = {
     6: call_rank,
     7: call_rounds,
     8: call_parts,
+    9: call_dual,
+    10: call_drop,
+    11: call_pinch,
+    12: call_beside,
+    13: call_union,
+    14: call_same,
+    15: call_common,
+    16: call_best,
+    17: call_number,
 }
 
 

@@ -5,6 +5,7 @@ from itertools import combinations
 from loosesets.bonds import answers
 
 MOST_CALLS = 30
+GREATEST = 4294967295
 
 
 def make_any(k, n, r):
@@ -43,6 +44,47 @@ def parts(k):
     return [8, k]
 
 
+def dual(k, j):
+    return [9, k, j]
+
+
+def drop(k, s, j):
+    return [10, k, s, j]
+
+
+def pinch(k, s, j):
+    return [11, k, s, j]
+
+
+def beside(k, h, j):
+    return [12, k, h, j]
+
+
+def union(k, h, j):
+    return [13, k, h, j]
+
+
+def same(k, h):
+    return [14, k, h]
+
+
+def common(k, h):
+    return [15, k, h]
+
+
+def best(k, weights):
+    return [16, k, len(weights)] + weights
+
+
+def number(k, i, j):
+    return [17, k, i, j]
+
+
+def moved(make, k):
+    """The same call that makes a bond of no other, with its bond at k."""
+    return [make[0], k] + make[2:]
+
+
 def split(flat):
     """The answers of a list of calls, one list each; the counts must come out even."""
     found = []
@@ -69,19 +111,42 @@ def last(*calls):
     return run(*calls)[-1]
 
 
-def ask_all(make, questions):
-    """The answers to many questions about one bond, however many lists of calls they take."""
+def ask_after(calls, questions):
+    """The answers to many questions behind the same calls, however many lists of calls they take."""
     found = []
-    step = MOST_CALLS - 1
+    step = MOST_CALLS - len(calls)
     for at in range(0, len(questions), step):
-        found.extend(run(make, *questions[at:at + step])[1:])
+        found.extend(run(*calls, *questions[at:at + step])[len(calls):])
     return found
 
 
+def ask_all(make, questions):
+    return ask_after([make], questions)
+
+
+def bases_after(calls, k):
+    """The bases at place k behind the calls, read by nth."""
+    count = last(*calls, tell(k))[2]
+    return [answer[0] for answer in ask_after(calls, [nth(k, i) for i in range(count)])]
+
+
 def read_bases(make):
-    """The bases that a call puts at place 0, read by nth."""
-    count = last(make)[2]
-    return [answer[0] for answer in ask_all(make, [nth(0, i) for i in range(count)])]
+    """The bases that a call puts at place 0."""
+    return bases_after([make], 0)
+
+
+def look(places=range(4)):
+    """Questions that tell all of what the places hold: a bond's things and rounds leave nothing of it open."""
+    return [ask for k in places for ask in (tell(k), rounds(k))]
+
+
+def refusal(makes, call):
+    """What is answered to a call that is to be refused; the places must hold afterwards what they held before."""
+    found = run(*makes, *look(), call, *look())
+    before = len(makes)
+    if found[before:before + 8] != found[before + 9:]:
+        raise AssertionError(f"{call} changed what a place holds: {found}")
+    return found[before + 8]
 
 
 def things_of(s):
@@ -122,6 +187,12 @@ def loose_by_words(bases):
 def greatest(loose):
     most = max(size(s) for s in loose)
     return sorted(s for s in loose if size(s) == most)
+
+
+def ranks_by_words(n, bases):
+    """The ranks of all sets of n things."""
+    loose = loose_by_words(bases)
+    return [max(size(part) for part in within(s) if part in loose) for s in range(2 ** n)]
 
 
 def rank_by_words(bases, s):

@@ -8,16 +8,21 @@ import unittest
 
 from loosesets.bonds import answers
 from tests.calling import (
-    last, make_any, make_bases, make_edges, make_rows, nth, parts, rank, rounds, run, tell)
+    best, beside, common, drop, dual, last, look, make_any, make_bases, make_edges, make_rows, nth, number, parts,
+    pinch, rank, rounds, run, same, tell, union)
 
 MANY = (
     make_rows(2, 2, 2, [1, 0, 0, 1, 1, 1]), make_any(0, 4, 2), rank(2, 3), make_any(4, 1, 1), make_edges(3, [1, 1]),
     tell(0), tell(1), nth(2, 2), nth(2, 3), rounds(3), make_bases(1, 2, [2, 1, 2]), make_bases(1, 4, [3, 12]),
-    parts(1), make_edges(0, [0, 1, 0, 1, 2]), tell(0), rounds(0), make_any(0, 1, 1), tell(0), rank(0, 2), parts(3))
+    parts(1), make_edges(0, [0, 1, 0, 1, 2]), tell(0), rounds(0), beside(2, 3, 1), same(1, 0), common(0, 1),
+    union(0, 1, 0), number(1, 2, 1), dual(1, 2), best(2, [-3, -1, -2, -4]), drop(2, 2, 3), pinch(1, 9, 1), common(1, 3),
+    make_any(0, 1, 1), tell(0), rank(0, 2), parts(3))
 TOLD = (
     [3, 2, 3], [4, 2, 6], [2, 7], [-2], [1, 0, 1],
     [4, 2, 6], [0, 0, 1], [6], [-4], [1, 1], [2, 1, 2], [-5],
-    [2, 0, 0], [-2], [4, 2, 6], [4, 7, 11, 13, 14], [1, 1, 1], [1, 1, 1], [-2], [1, 0])
+    [2, 0, 0], [-2], [4, 2, 6], [4, 7, 11, 13, 14], [4, 2, 3], [0], [2, 3, 0],
+    [4, 4, 1], [0, 1], [4, 2, 3], [10, -5], [3, 2, 2], [2, 1, 2], [-3],
+    [1, 1, 1], [1, 1, 1], [-2], [3, 0, 0, 2])
 
 
 def together(calls):
@@ -36,6 +41,8 @@ class Untouchable(list):
 
 class Several(unittest.TestCase):
     def test_on_several_places_in_any_order(self):
+        self.assertEqual(len(MANY), 30)
+        self.assertEqual({call[0] for call in MANY}, set(range(18)))
         self.assertEqual(run(*MANY), list(TOLD))
 
     def test_how_answers_stand(self):
@@ -51,6 +58,16 @@ class Several(unittest.TestCase):
         self.assertEqual(answers([3, 0, 0, 0]), [1, -5])
         self.assertEqual(answers([7, 1]), [1, 0])
         self.assertEqual(answers([0, 0, 2, 1, 7, 0]), [3, 2, 1, 2, 2, 1, 3])
+        self.assertEqual(answers([9, 0, 1]), [3, 0, 0, 1])
+        self.assertEqual(answers([10, 0, 0, 1]), [3, 0, 0, 1])
+        self.assertEqual(answers([11, 0, 1, 1]), [1, -2])
+        self.assertEqual(answers([12, 0, 1, 2]), [3, 0, 0, 1])
+        self.assertEqual(answers([0, 0, 1, 1, 13, 0, 1, 2]), [3, 1, 1, 1, 1, -3])
+        self.assertEqual(answers([14, 0, 1]), [1, 1])
+        self.assertEqual(answers([15, 0, 1]), [3, 0, 0, 0])
+        self.assertEqual(answers([16, 0, 0]), [2, 0, 0])
+        self.assertEqual(answers([0, 0, 1, 1, 16, 0, 1, -7]), [3, 1, 1, 1, 2, 1, -7])
+        self.assertEqual(answers([17, 0, 0, 0]), [2, 0, 1])
 
     def test_a_bond_is_replaced_by_the_new_one(self):
         makes = (make_any(1, 8, 4), make_edges(1, [0, 1, 1, 0]), make_rows(1, 5, 1, [5]), make_bases(1, 3, [7]))
@@ -70,13 +87,31 @@ class Several(unittest.TestCase):
 
     def test_refused_calls_are_stepped_over_whole(self):
         wrong = (make_any(9, 9, 9), make_edges(9, [4] * 32), make_rows(9, 1, 1, [4] * 96),
-                 make_bases(9, 9, [4] * 300), nth(9, 4), rank(9, 4), rounds(9), parts(9), tell(9))
-        self.assertEqual(run(*wrong, tell(0)), [[-2]] * 9 + [[0, 0, 1]])
+                 make_bases(9, 9, [4] * 300), nth(9, 4), rank(9, 4), rounds(9), parts(9), tell(9), dual(9, 4),
+                 drop(9, 4, 4), pinch(9, 4, 4), beside(9, 4, 4), union(9, 4, 4), same(9, 4), common(9, 4),
+                 best(9, [4] * 16), number(9, 4, 4))
+        self.assertEqual({call[0] for call in wrong}, set(range(18)))
+        self.assertEqual(run(*wrong, tell(0)), [[-2]] * 18 + [[0, 0, 1]])
+        for call in wrong:
+            self.assertEqual(run(make_any(0, 2, 1), call, *look())[1:4], [[-2], [2, 1, 2], [1, 3]])
+
+    def test_calls_refused_for_what_is_behind_the_place_are_stepped_over_whole(self):
+        made = make_any(0, 5, 2)
+        for call, refused in ((best(0, [4] * 16), -2), (best(1, [4]), -2), (number(0, 9, 4), -2), (drop(0, 32, 0), -2),
+                              (pinch(0, 32, 4), -2), (beside(0, 0, 0), -3), (union(0, 1, 0), -3), (common(1, 0), -3)):
+            self.assertEqual(run(made, call, *look([0]))[1:3], [[refused], [5, 2, 10]])
 
     def test_thirty_of_the_longest(self):
         whole = [s for s in range(256) if bin(s).count("1") == 4]
         call = make_bases(0, 8, (whole * 5)[:300])
         self.assertEqual(run(*[call] * 30), [[8, 4, 70]] * 30)
+
+    def test_thirty_with_the_most_to_do(self):
+        made = make_any(0, 8, 4)
+        for call, answer in ((union(0, 0, 1), [8, 8, 1]), (common(0, 0), [4, 15, 0]), (number(0, 4, 0), [0, 1]),
+                             (rank(0, 15), [4, 255]), (dual(0, 0), [8, 4, 70]), (pinch(0, 0, 0), [8, 4, 70]),
+                             (best(0, [1, 2, 3, 4, 5, 6, 7, 8]), [240, 26])):
+            self.assertEqual(run(made, *[call] * 29)[1:], [answer] * 29)
 
 
 class LeftAlone(unittest.TestCase):

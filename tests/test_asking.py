@@ -5,17 +5,9 @@ import unittest
 from tests.calling import (
     ask_all, closure_by_words, last, make_any, make_bases, make_edges, make_rows, nth, parts, parts_by_words, rank,
     rank_by_words, read_bases, rounds, rounds_by_words, run, tell)
+from tests.samples import MADE
 
 GREATEST = 4294967295
-
-MADE = (
-    make_any(0, 0, 0), make_any(0, 1, 0), make_any(0, 1, 1), make_any(0, 6, 3), make_any(0, 8, 0), make_any(0, 8, 4),
-    make_any(0, 8, 8), make_edges(0, []), make_edges(0, [0, 1, 1, 2, 2, 0, 2, 3, 4, 4]),
-    make_edges(0, [0, 1, 5, 6, 1, 0, 6, 7, 7, 5, 8, 9, 3, 3, 9, 10]),
-    make_edges(0, [0, 1, 0, 2, 0, 3, 1, 2, 1, 3, 2, 3]), make_rows(0, 0, 2, [1, 0, 2, 0, 0, 0, 0, 1, 1, 1]),
-    make_rows(0, 2, 3, [1, 0, 0, 0, 1, 0, 0, 0, 1, 1, 1, 0, 1, 1, 1, 2, 2, 2]),
-    make_rows(0, 3, 3, [1, 0, 0, 0, 1, 0, 0, 0, 1, 1, 1, 1, 2, 2, 2, 1, 2, 0]), make_bases(0, 3, [1, 4]),
-    make_bases(0, 8, [16, 2, 64]), make_bases(0, 5, [5, 6, 9, 10]), make_bases(0, 4, [0]), make_bases(0, 4, [15]))
 
 
 class Fresh(unittest.TestCase):

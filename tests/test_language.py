@@ -133,6 +133,48 @@ class Shapes(unittest.TestCase):
                 self.assertIn(getattr(node.comparators[0], "value", 0), (None, True, False), (path, node.lineno))
 
 
+class WhatIsNotThere(unittest.TestCase):
+    """Rules with many conditions, kept by doing without: who needs one of these writes its test, too."""
+
+    def test_no_errors_are_raised_or_taken(self):
+        self.assertEqual(nodes((ast.Try, ast.Raise)), [])
+
+    def test_no_lambdas_and_no_written_sets(self):
+        self.assertEqual(nodes((ast.Lambda, ast.Set)), [])
+
+    def test_no_keywords_at_calls(self):
+        self.assertEqual(nodes(ast.keyword), [])
+
+    def test_no_methods_with_two_underscores_but_init(self):
+        self.assertEqual({name for name in own_methods() if name.startswith("__")}, {"__init__"})
+        for path, node in nodes(ast.FunctionDef):
+            if node.name == "__init__":
+                self.assertFalse(any(isinstance(inner, ast.Return) for inner in ast.walk(node)), path)
+
+    def test_classes_are_called_alone(self):
+        classes = [node.name for path, node in nodes(ast.ClassDef)]
+        for path, tree in trees():
+            called = [node.func for node in ast.walk(tree) if isinstance(node, ast.Call)]
+            for node in ast.walk(tree):
+                if isinstance(node, ast.Name) and node.id in classes:
+                    self.assertIn(node, called, (path, node.id, node.lineno))
+
+    def test_pythons_own_are_called_alone(self):
+        for path, tree in trees():
+            called = [node.func for node in ast.walk(tree) if isinstance(node, ast.Call)]
+            for node in ast.walk(tree):
+                if isinstance(node, ast.Name) and hasattr(builtins, node.id):
+                    self.assertIn(node, called, (path, node.id, node.lineno))
+
+    def test_sets_stand_straight_within_sorted_or_len(self):
+        for path, tree in trees():
+            calls = [node for node in ast.walk(tree) if isinstance(node, ast.Call) and isinstance(node.func, ast.Name)]
+            within = [node.args[0] for node in calls if node.func.id in ("sorted", "len")]
+            for node in calls:
+                if node.func.id in ("set", "frozenset"):
+                    self.assertIn(node, within, (path, node.lineno))
+
+
 class Names(unittest.TestCase):
     def test_imports(self):
         drawn = {path.stem: [] for path in files()}
